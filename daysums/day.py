@@ -3,6 +3,8 @@
 Every call is answered by a list: a refusal alone, or all the numbers of the answer.
 """
 
+from daysums.stays import can_go_so, first_goes_first, gone_so, last_goes_first, shortened, told_of
+
 LAST_MINUTE = 500
 KINDS = 4
 MOST_WHO_COME = 30
@@ -11,6 +13,7 @@ NOT_STARTED = -11
 WRONG_NUMBER = -22
 ALL_HAVE_COME = -28
 NONE_OF_THE_KIND = -16
+SOMEBODY_IS_THERE = -16
 NOBODY = -6
 
 
@@ -21,8 +24,15 @@ class Day:
         self.came = []
         self.gone = []
 
+    # Looked up in the notes, not kept beside them: an undo may move it back.
     def last_noted(self):
-        return max([minute for minute, kind in self.came + self.gone], default=0)
+        return max(self.came_minutes() + self.gone_minutes(), default=0)
+
+    def came_minutes(self):
+        return [minute for minute, kind in self.came]
+
+    def gone_minutes(self):
+        return [minute for minute, kind in self.gone]
 
     def is_wrong_minute(self, minute):
         return minute < self.last_noted() or minute > LAST_MINUTE
@@ -32,6 +42,9 @@ class Day:
 
     def there_now(self):
         return len(self.came) - len(self.gone)
+
+    def all_stays(self):
+        return sum(self.gone_minutes()) - sum(self.came_minutes())
 
     def there_by_kind(self):
         counts = [0] * KINDS
@@ -45,9 +58,9 @@ class Day:
     # and goes in one minute isn't there by it.
     def there_by_minute(self):
         changes = [0] * (LAST_MINUTE + 1)
-        for minute, kind in self.came:
+        for minute in self.came_minutes():
             changes[minute] += 1
-        for minute, kind in self.gone:
+        for minute in self.gone_minutes():
             changes[minute] -= 1
         counts = []
         count = 0
@@ -88,6 +101,12 @@ class Day:
             self.gone.extend([(minute, kind)] * leaving[kind])
         return [sum(leaving)]
 
+    def undo(self):
+        if len(self.gone) == 0:
+            return [NOBODY]
+        self.gone.pop()
+        return [len(self.gone)]
+
     def present(self, minute):
         if minute > LAST_MINUTE:
             return [WRONG_NUMBER]
@@ -112,3 +131,51 @@ class Day:
         if until < since or until > LAST_MINUTE + 1:
             return [WRONG_NUMBER]
         return [sum(self.there_by_minute()[since:until])]
+
+    def before(self, minute):
+        if minute > LAST_MINUTE:
+            return [WRONG_NUMBER]
+        came = [entered for entered in self.came_minutes() if entered <= minute]
+        gone = [went for went in self.gone_minutes() if went <= minute]
+        return [len(came), len(gone)]
+
+    def total(self):
+        if self.there_now() > 0:
+            return [SOMEBODY_IS_THERE]
+        return [self.all_stays()]
+
+    def mean(self):
+        if self.there_now() > 0:
+            return [SOMEBODY_IS_THERE]
+        if len(self.gone) == 0:
+            return [NOBODY]
+        return [0] + shortened(self.all_stays(), len(self.gone))
+
+    def kind(self, asked):
+        if asked >= KINDS:
+            return [WRONG_NUMBER]
+        if self.there_by_kind()[asked] > 0:
+            return [SOMEBODY_IS_THERE]
+        came = [minute for minute, kind in self.came if kind == asked]
+        gone = [minute for minute, kind in self.gone if kind == asked]
+        return [len(came), sum(gone) - sum(came)]
+
+    def first(self):
+        return told_of(first_goes_first(self.came_minutes(), self.gone_minutes()))
+
+    def latest(self):
+        return told_of(last_goes_first(self.came_minutes(), self.gone_minutes()))
+
+    def as_if(self, places):
+        came = self.came_minutes()
+        gone = self.gone_minutes()
+        if not can_go_so(came, gone, places):
+            return [WRONG_NUMBER]
+        return told_of(gone_so(came, gone, places))
+
+    def longer(self, minutes):
+        stays = first_goes_first(self.came_minutes(), self.gone_minutes())
+        return [len([stay for stay in stays if stay > minutes])]
+
+    def state(self):
+        return [len(self.came), len(self.gone), self.last_noted()]

@@ -1,57 +1,32 @@
-"""What daysums.door.answers promises of start, in, out, close, present, there, kinds, most, busy and area."""
+"""The list that daysums.door.answers takes, and start, in, out, close, present, there, kinds, most, busy and area."""
 
+import contextlib
+import io
 import unittest
 
+from asking import (
+    BUSY, FIRST, KINDS, LARGEST, LATEST, MEAN, MORNING, MOST, START, STATE, THERE, TOTAL, UNDO, area, as_if, ask,
+    before, behind, close, come, kind, last, leave, longer, one_list, present,
+)
 from daysums.door import answers
 
-LARGEST = 4294967295
-
-START = [0]
-THERE = [5]
-KINDS = [6]
-MOST = [7]
-BUSY = [8]
-
-
-def come(minute, kind):
-    return [1, minute, kind]
+# MORNING, then all go; some of them are called back and go again.
+EVENING = MORNING + [close(30), UNDO, close(31), UNDO, UNDO, close(40)]
+TELLING = [
+    present(15), THERE, KINDS, MOST, BUSY, area(0, 501), TOTAL, MEAN, FIRST, LATEST, as_if(3, 1, 2, 0),
+    as_if(0, 1, 2, 3), kind(0), before(15), longer(20), STATE,
+]
+EVERY_OTHER_CALL = [come(1, 1), leave(1, 1), close(1), UNDO, as_if()] + TELLING
 
 
-def leave(minute, kind):
-    return [2, minute, kind]
+class Watched(list):
+    """A list that can't be changed, so that a change taken back later is seen too."""
 
+    def refuse(self, *given, **named):
+        raise AssertionError("what is handed in was changed")
 
-def close(minute):
-    return [3, minute]
-
-
-def present(minute):
-    return [4, minute]
-
-
-def area(since, until):
-    return [9, since, until]
-
-
-def ask(*calls):
-    """The answers, one list a call, with the counts before them checked and taken off."""
-    numbers = answers([number for call in calls for number in call])
-    told = []
-    while numbers:
-        count = numbers[0]
-        assert 0 < count < len(numbers), numbers
-        told.append(numbers[1:1 + count])
-        numbers = numbers[1 + count:]
-    assert len(told) == len(calls), told
-    return told
-
-
-def last(*calls):
-    return ask(*calls)[-1]
-
-
-# Two of kind 0 and one of kind 2 come, one of kind 0 goes, one of kind 3 comes.
-MORNING = [START, come(10, 0), come(10, 2), come(12, 0), leave(15, 0), come(20, 3)]
+    __setitem__ = __delitem__ = __iadd__ = __imul__ = refuse
+    append = clear = extend = insert = pop = remove = reverse = sort = refuse
 
 
 class TheList(unittest.TestCase):
@@ -63,44 +38,91 @@ class TheList(unittest.TestCase):
             [1, -11, 1, 0, 1, 1, 5, 4, 0, 0, 1, 0, 2, 1, 3, 1, -22, 1, 0, 1, 2, 1, -6],
         )
 
+    def test_counts_stand_before_answers_of_stays(self):
+        calls = [10, 0, 1, 3, 2, 11, 15, 2, 2, 7, 2, 10, 11, 12, 13, 14, 1, 0, 14, 0, 15, 2, 16, 3, 17, 3, 18, 19, 18]
+        self.assertEqual(
+            answers(calls),
+            [1, -11, 1, 0, 1, 1, 1, -16, 1, -16, 1, 0, 1, 4, 3, 0, 4, 1, 3, 4, 4, 16, 3, 4, 4, 16, 3, 4, 4, 16, 1, -22,
+             2, 1, 4, 2, 1, 0, 1, 1, 1, 0, 3, 1, 0, 3, 1, -6],
+        )
+
+    def test_a_row_is_passed_over_where_it_is_refused(self):
+        self.assertEqual(ask(as_if(0, 19, 0), START, as_if(10, 11), THERE), [[-11], [0], [-22], [0]])
+        self.assertEqual(ask(as_if(), START, as_if(), THERE), [[-11], [0], [0, 0, 0], [0]])
+
     def test_what_is_handed_in_stays(self):
-        calls = [number for call in MORNING + [close(30), KINDS, MOST, area(0, 501)] for number in call]
-        before = list(calls)
-        answers(calls)
-        self.assertEqual(calls, before)
+        calls = one_list(EVENING + TELLING + [START] + MORNING + TELLING)
+        handed = Watched(calls)
+        self.assertEqual(answers(handed), answers(calls))
+        self.assertEqual(list(handed), calls)
 
     def test_nothing_is_kept_from_one_time_to_the_next(self):
-        calls = [number for call in MORNING + [KINDS, MOST, BUSY] for number in call]
-        first = answers(calls)
-        self.assertEqual(answers(calls), first)
-        self.assertEqual(answers([5, 1, 0, 0]), [1, -11, 1, -11])
-        self.assertEqual(answers(calls), first)
+        calls = one_list(EVENING + TELLING)
+        once = answers(calls)
+        self.assertEqual(answers(calls), once)
+        self.assertEqual(answers([5, 1, 0, 0, 19]), [1, -11, 1, -11, 1, -11])
+        self.assertEqual(answers([0, 19, 12]), [1, 0, 3, 0, 0, 0, 3, 0, 0, 0])
+        self.assertEqual(answers(calls), once)
 
     def test_an_answer_given_back_is_nobody_elses(self):
-        first = answers([0, 6])
-        first.append(7)
-        self.assertEqual(answers([0, 6]), [1, 0, 5, 4, 0, 0, 0, 0])
+        once = answers([0, 6, 12])
+        kept = list(once)
+        once.append(7)
+        self.assertEqual(answers([0, 6, 12]), kept)
 
     def test_all_are_whole_numbers_in_a_list(self):
-        told = answers([5] + [number for call in MORNING + [KINDS, MOST, BUSY, close(20)] for number in call])
+        told = answers([5] + one_list(EVENING + TELLING + MORNING + TELLING))
         self.assertIs(type(told), list)
         self.assertEqual({type(number) for number in told}, {int})
+
+    def test_only_refusals_are_below_0(self):
+        for answer in ask(THERE, *EVENING, *TELLING, *MORNING, *TELLING):
+            if min(answer) < 0:
+                self.assertIn(answer, [[-11], [-22], [-28], [-16], [-6]])
+
+    def test_nothing_is_printed(self):
+        printed = io.StringIO()
+        with contextlib.redirect_stdout(printed), contextlib.redirect_stderr(printed):
+            ask(*EVENING, *TELLING)
+        self.assertEqual(printed.getvalue(), "")
 
     def test_two_hundred_calls(self):
         calls = [START] + [come(i, i % 4) for i in range(30)] + [area(0, 501)] * 169
         self.assertEqual(ask(*calls)[31:], [[sum(501 - i for i in range(30))]] * 169)
 
+    def test_two_hundred_calls_of_stays(self):
+        rounds = [as_if(*range(29, -1, -1)), FIRST, LATEST, UNDO, close(500), TOTAL]
+        calls = [START] + [come(i, i % 4) for i in range(30)] + [close(500)] + rounds * 28
+        squares = sum((500 - i) ** 2 for i in range(30))
+        stays = sum(500 - i for i in range(30))
+        told = [[stays, 500, squares]] * 3 + [[29], [1], [stays]]
+        self.assertEqual(len(calls), 200)
+        self.assertEqual(ask(*calls)[32:], told * 28)
+
+    def test_the_longest_list(self):
+        calls = [START] + [as_if(*[LARGEST] * 60)] * 199
+        self.assertEqual(len(one_list(calls)), 1 + 199 * 62)
+        self.assertEqual(ask(*calls), [[0]] + [[-22]] * 199)
+
 
 class Start(unittest.TestCase):
     def test_before_it_every_other_call_answers_minus_11(self):
-        calls = [come(1, 1), leave(1, 1), close(1), present(1), THERE, KINDS, MOST, BUSY, area(0, 1)]
-        for call in calls:
+        self.assertEqual(sorted({call[0] for call in EVERY_OTHER_CALL}), list(range(1, 20)))
+        for call in EVERY_OTHER_CALL:
             self.assertEqual(ask(call), [[-11]])
-        self.assertEqual(ask(*calls), [[-11]] * 9)
+            self.assertEqual(ask(call, START, THERE), [[-11], [0], [0]])
+        self.assertEqual(ask(*EVERY_OTHER_CALL), [[-11]] * len(EVERY_OTHER_CALL))
 
     def test_minus_11_is_ahead_of_every_other_refusal(self):
-        for call in [come(501, 4), leave(501, 4), close(501), present(501), area(2, 1)]:
+        for call in [come(501, 4), leave(501, 4), close(501), present(501), area(2, 1), as_if(0), as_if(5, 5),
+                     kind(4), before(501), longer(LARGEST)]:
             self.assertEqual(ask(call), [[-11]])
+
+    def test_a_second_start_behind_any_call(self):
+        empty = behind([START], *TELLING, *EVERY_OTHER_CALL)
+        for call in EVERY_OTHER_CALL:
+            for day in [MORNING, EVENING]:
+                self.assertEqual(behind(day + [call, START], *TELLING, *EVERY_OTHER_CALL), empty, call)
 
     def test_nobody_comes_before_it(self):
         self.assertEqual(ask(come(5, 0), START, THERE, come(0, 0)), [[-11], [0], [0], [1]])
